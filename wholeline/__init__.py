@@ -1,0 +1,1 @@
+"""Wholeline: a line whose parts meet."""
