@@ -17,6 +17,13 @@ class Played:
         self.idle = idle
         self.fault = fault
 
+    def __eq__(self, other):
+        if not isinstance(other, Played) or self.sent != other.sent or self.taken != other.taken:
+            return False
+        if self.closed != other.closed or self.lost != other.lost or self.short != other.short:
+            return False
+        return self.idle == other.idle and self.fault == other.fault
+
 
 class Player:
     """The sender, the reader and what is on its way between them."""

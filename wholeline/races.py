@@ -84,6 +84,11 @@ class Outcome:
         self.moment = moment
         self.sent = tuple(sent)
 
+    def __eq__(self, other):
+        if not isinstance(other, Outcome) or self.winner != other.winner:
+            return False
+        return self.moment == other.moment and self.sent == other.sent
+
 
 def fits(way, entry):
     """Whether any value is an entry of a run for a way."""

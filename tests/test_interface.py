@@ -1,0 +1,120 @@
+"""The interface of DOC.md: each name stands in its file, with its arguments."""
+
+import ast
+import importlib
+import inspect
+from pathlib import Path
+
+from tests.help import Case
+
+PACKAGE = Path(__file__).resolve().parent.parent / "wholeline"
+
+FUNCTIONS = {
+    "letters": ["is_letter(value)"],
+    "books": [
+        "is_word(value)", "write_heads(book, heads)", "read_words(book, words)", "parting_words(one, other)",
+        "is_parting(one, other, value)",
+    ],
+    "lengths": [
+        "distances(heads)", "shorts(heads, places)", "letter_lengths(mail, places, cost)",
+        "places_for(mail, cost, most)",
+    ],
+    "bestbooks": [
+        "gaps_of(heads)", "bound_by(heads, places, indexes)", "most_shorts(heads, places)",
+        "best_writing(heads, places)", "shorts_by(heads, places, writing)", "rule_shorts(heads, places)",
+    ],
+    "bookpapers": ["writing_paper(heads, places)", "lets_writing(heads, places, value)"],
+    "pieces": [
+        "goes(room, cap, length)", "fewest(room, cap, length)", "layers(room, cap)", "least_cap(room, length)",
+        "greedy(room, cap, length)",
+    ],
+    "cutting": [
+        "told_cut(room, cap, length)", "cuts(room, cap, length)", "is_right_cut(room, cap, length, value)",
+        "filled(room, pieces)",
+    ],
+    "beststeps": [
+        "spans_of(size, pieces)", "fewest_bounds(size, pieces)", "apart_spans(size, pieces)",
+        "best_steps(size, cap, lengths, many)", "best_total(size, cap, lengths, many)",
+    ],
+    "roompapers": [
+        "room_paper(room, cap, length)", "lets_room(room, cap, length, value)", "spans_paper(size, pieces)",
+        "lets_spans(size, pieces, value)",
+    ],
+    "races": [
+        "played(race, run)", "outcomes(race)", "run_count(race)", "runs(race)", "win_run(race, way, at)",
+        "silent_after(race, way, at)",
+    ],
+    "racepapers": [
+        "win_paper(race, way, at)", "latest_paper(race)", "shows_win(race, way, at, run)",
+        "shows_never(race, way, at, lot)", "shows_latest(race, at, run, lot)", "shows_unanswered(race, run)",
+    ],
+    "begins": [
+        "best_begins(ways, allowed, silent, gap)",
+        "shows_begins(ways, allowed, silent, gap, end, begins, paper)",
+    ],
+    "turns": ["play(turn, load, course)", "is_right(load, played)"],
+}
+
+CLASSES = {
+    "letters.Mail": [
+        "__init__(self, rows)", "rows_told(self)", "letters_told(self)", "heads_told(self)", "__len__(self)",
+        "__getitem__(self, at)", "__eq__(self, other)", "with_letter(self, row, letter)", "with_row(self, letters)",
+    ],
+    "books.Book": [
+        "__init__(self, places, uses=())", "held(self)", "oldest_first(self)", "place_of(self, head)",
+        "__contains__(self, head)", "__len__(self)", "next_place(self)", "used(self, head)", "__eq__(self, other)",
+        "word_for(self, head)", "head_for(self, word)",
+    ],
+    "steps.Steps": [
+        "__init__(self, bounds)", "__call__(self, free)", "__len__(self)", "__contains__(self, bound)",
+        "__le__(self, other)", "__add__(self, bound)", "__eq__(self, other)",
+    ],
+    "steps.Room": [
+        "__init__(self, size, steps)", "told(self, held)", "reach(self, held, cap)", "top(self, cap)",
+        "__le__(self, other)", "__eq__(self, other)",
+    ],
+    "ways.Way": [
+        "__init__(self, begin, least, most, boxes=())", "window(self)", "begun_at(self, begin)", "__eq__(self, other)",
+    ],
+    "races.Race": [
+        "__init__(self, ways, silent)", "planned(self)", "hurried(self, way, at)", "can_win(self, way, at)",
+        "last_win(self, way)", "winners(self)", "latest(self)", "__eq__(self, other)",
+    ],
+    "races.Outcome": ["__init__(self, winner, moment, sent)"],
+    "turns.Turn": ["__init__(self, least, most, turn, numbers)", "__eq__(self, other)"],
+    "turns.Load": ["__init__(self, rows, quiet)", "__len__(self)", "__eq__(self, other)"],
+}
+
+GENERATORS = ["cutting.cuts", "cutting.filled", "races.outcomes", "races.runs"]
+
+
+def tree_of(file):
+    return ast.parse((PACKAGE / f"{file}.py").read_text())
+
+
+class InterfaceTest(Case):
+    def test_functions_stand_in_their_files(self):
+        for file, functions in FUNCTIONS.items():
+            defined = [row.name for row in tree_of(file).body if isinstance(row, ast.FunctionDef)]
+            module = importlib.import_module(f"wholeline.{file}")
+            for told in functions:
+                name, _, arguments = told.partition("(")
+                self.assertIn(name, defined, file)
+                self.assertEqual(str(inspect.signature(getattr(module, name))), "(" + arguments)
+
+    def test_methods_stand_in_their_classes(self):
+        for place, methods in CLASSES.items():
+            file, _, name = place.partition(".")
+            classes = {row.name: row for row in tree_of(file).body if isinstance(row, ast.ClassDef)}
+            defined = [row.name for row in classes[name].body if isinstance(row, ast.FunctionDef)]
+            kind = getattr(importlib.import_module(f"wholeline.{file}"), name)
+            for told in methods:
+                method, _, arguments = told.partition("(")
+                self.assertIn(method, defined, place)
+                self.assertEqual(str(inspect.signature(getattr(kind, method))), "(" + arguments)
+
+    def test_generators(self):
+        for place in GENERATORS:
+            file, _, name = place.partition(".")
+            function = getattr(importlib.import_module(f"wholeline.{file}"), name)
+            self.assertTrue(inspect.isgeneratorfunction(function), place)
