@@ -54,5 +54,7 @@ SPECIAL = [
     Race([Way(0, 1, 2), Way(None, 1, 2)], 1),
     Race([Way(None, 1, 2)], 0),
     Race([Way(None, 1, 2)], 3),
+    Race([Way(4, 1, 2)], 1),
+    Race([Way(0, 1, 2), Way(3, 1, 1)], 2),
     Race([Way(3, 1, 2), Way(3, 1, 2), Way(3, 1, 1)], 2),
 ]

@@ -56,6 +56,13 @@ class BestBeginsTest(Case):
         self.assertEqual([type(begins), type(paper), type(paper[1])], [tuple, tuple, tuple])
         self.same(best_begins(WAYS, (0, 1, 2, 3), 3, 500)[0], 1504)
 
+    def test_greatest_and_least_delays(self):
+        ways = [Way(0, 1, 50), Way(0, 1, 1), Way(0, 50, 50)]
+        for silent, end in ((0, 2), (1, 100), (2, 107)):
+            told = best_begins(ways, [0, 1, 2], silent, 7)
+            self.same(told[0], end)
+            self.assertIs(shows_begins(ways, [0, 1, 2], silent, 7, *told), True)
+
     def test_gap_0(self):
         end, begins, paper = best_begins(WAYS, [0, 1, 2], 1, 0)
         self.same(end, 6)

@@ -200,7 +200,7 @@ class WritingPaperTest(Case):
             [word, writing, indexes], (word, writing), (word, writing, indexes, 0), ("least", writing, indexes),
             (word, tuple(writing), indexes), (word, writing, tuple(indexes)), (Prickly(), writing, indexes),
             (word, [False] + writing[1:], indexes), (word, writing + [0], indexes), (word, writing[:-1], indexes),
-            (word, writing, indexes + [3, 3]), (word, writing, [1, 0]), (word, writing, [True]), (word, writing, [4]),
+            (word, writing, indexes + [3, 3]), (word, writing, [1, 0]), (word, writing, [1, 1]), (word, writing, [True]), (word, writing, [4]),
             (word, writing, [-1]), (word, None, indexes), (word, writing, None), (None, writing, indexes),
         ]
         for value in wrong + NO_INTEGERS + NO_LISTS:
@@ -209,6 +209,7 @@ class WritingPaperTest(Case):
             self.assertIs(lets_writing(heads, 2, (word, [odd] + writing[1:], indexes)), False)
             self.assertIs(lets_writing(heads, 2, (word, writing, [odd])), False)
         self.assertIs(lets_writing(heads=heads, places=2, value=writing_paper(heads=heads, places=2)), True)
+        self.assertIs(lets_writing(["a", "b", "a"], 1, ("best", [0, 0, 0], [1, 1])), False)
         # Alike by ==, but True is no index.
         self.assertIs(lets_writing(["a", "b", "a"], 1, ("best", [0, 0, 0], [1])), True)
         self.assertIs(lets_writing(["a", "b", "a"], 1, ("best", [0, 0, 0], [True])), False)

@@ -165,6 +165,7 @@ class BookTest(Case):
         self.equal_ones(Book(2, ["a", "b"]), Book(2, ["a", "a", "b"]))
         self.unlike_ones(Book(2, ["a", "b"]), Book(2, ["a", "b", "a"]))
         self.unlike_ones(Book(2, ["a"]), Book(3, ["a"]))
+        self.unlike_ones(Book(2, ["a"]), Book(2, ["b"]))
         self.unlike_ones(Book(0), Book(1))
         self.unlike_others(Book(0))
         self.not_iterated(Book(1, ["a"]))

@@ -53,6 +53,8 @@ class IsRightCutTest(Case):
         self.assertIs(is_right_cut(room=ROOM, cap=8, length=10, value=(2, 4, 4)), True)
         self.assertIs(is_right_cut(ROOM, 8, 0, (False,)), False)
         self.assertIs(is_right_cut(ROOM, 8, 0, ()), False)
+        self.assertIs(is_right_cut(ROOM, 8, 0, (-1,)), False)
+        self.assertIs(is_right_cut(ROOM, 8, 0, (1,)), False)
         self.assertIs(is_right_cut(ROOM, 8, 0, (0, 0)), False)
         self.assertIs(is_right_cut(ROOM, 0, 0, (0,)), True)
         self.assertIs(is_right_cut(ROOM, 8, 1, (True,)), False)

@@ -90,6 +90,8 @@ class ErrorsTest(Case):
             self.first_raises(BadPart("room"), cuts(value, value, value))
             self.first_raises(BadNumber(value), cuts(ROOM, value, 100))
             self.first_raises(BadNumber(value), cuts(ROOM, 0, value))
+            self.first_raises(BadPart("room"), cuts(value, value, 0))
+            self.first_raises(BadNumber(value), cuts(ROOM, value, 0))
 
 
 def is_right_cut_of(room, cap, length):

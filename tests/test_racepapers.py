@@ -71,6 +71,7 @@ class WinPaperTest(Case):
         self.same(shows_never(race, 0, 9, (1, 2)), True)
         self.same(shows_never(race, 0, 9, [1, 2]), False)
         self.same(shows_never(race, 0, 9, (2, 1)), False)
+        self.same(shows_never(race, 0, 9, (1, 1)), False)
         self.same(shows_never(race, 0, 9, (True, 2)), False)
         self.same(shows_never(race, 0, 9, ()), False)
         self.same(shows_never(race, 0, 21, (1, 2)), False)
@@ -117,7 +118,7 @@ class LatestPaperTest(Case):
     def test_refused(self):
         run, lot = ((10, 10), None), (0, 1)
         self.assertIs(shows_latest(RACE, 20, run, lot), True)
-        for value in NO_INTEGERS + NO_LISTS + BROKEN + [[0, 1], (1, 0), (0,), (False, 1), (0, True), (0, 1, 2)]:
+        for value in NO_INTEGERS + NO_LISTS + BROKEN + [[0, 1], (1, 0), (0,), (0, 0), (1, 1), (False, 1), (0, True), (0, 1, 2)]:
             self.assertIs(shows_latest(RACE, 20, run, value), False)
             self.assertIs(shows_latest(RACE, 20, value, lot), False)
         self.assertIs(shows_latest(RACE, 20, list(run), lot), False)

@@ -115,6 +115,9 @@ class PlayedTest(Case):
         self.same(told(Outcome(None, None, ())), (None, None, ()))
         self.not_iterated(outcome)
         self.unlike_others(outcome)
+        self.equal_ones(outcome, Outcome(1, 5, (0, 1)))
+        for other in (Outcome(0, 5, (0, 1)), Outcome(1, 6, (0, 1)), Outcome(1, 5, (0,))):
+            self.unlike_ones(outcome, other)
 
     def test_wrong_runs(self):
         race = Race([Way(0, 1, 3), Way(4, 2, 2), Way(None, 1, 1)], 1)
@@ -128,6 +131,11 @@ class PlayedTest(Case):
         self.raises(BadRun(2), played, race, ((1, 1), (2, 2), (1, 1)))
         self.raises(BadRun(None), played, race, (None, None, None))
         self.raises(BadRun(2), played, race, (None, None, (1, 1)))
+        # Ways that are not sent any more have their entries, and count.
+        unsent = Race([Way(0, 1, 1), Way(4, 1, 1), Way(5, 1, 1)], 1)
+        self.same(told(played(unsent, ((1, 1), None, (1, 1)))), (0, 2, (0,)))
+        self.raises(BadRun(None), played, unsent, ((1, 1), None, None))
+        self.raises(BadRun(2), played, unsent, ((1, 1), None, (1, 2)))
         self.raises(BadRun(3), played, race, (None, None, None, 1))
         wrong = [(0, 1), (1, 4), (1,), (1, 1, 1), [1, 1], (True, 1), (1, None), "ab", (Prickly(), 1)]
         for entry in wrong + [value for value in NO_INTEGERS if value is not None]:
@@ -153,15 +161,14 @@ class RunsTest(Case):
         self.same(run_count(race), 2500 ** 4 + 4 * 2500 ** 3 + 6 * 2500 ** 2 + 4 * 2500)
         runs(race)
         self.first_raises(TooMany(20000), runs(race))
-        # 141 * 141 runs are below the limit, 142 * 142 are above it.
-        self.same(run_count(Race([Way(0, 1, 11), Way(0, 1, 13)], 0)), 121 * 169)
+        self.same(run_count(Race([Way(0, 1, 11), Way(0, 1, 13)], 0)), 20449)
         self.first_raises(TooMany(20000), runs(Race([Way(0, 1, 11), Way(0, 1, 13)], 0)))
         self.same(len(list(runs(Race([Way(0, 1, 10), Way(0, 1, 14)], 0)))), 19600)
 
-    def test_just_at_the_limit(self):
-        # 8 * 8 pairs, 312 = 17 * 17 + 23: no race has just 20000 runs by squares alone.
-        race = Race([Way(0, 1, 50), Way(0, 1, 2), Way(0, 1, 1), Way(0, 1, 1)], 0)
+    def test_silent_ways_count(self):
+        race = Race([Way(0, 1, 50), Way(0, 1, 2), Way(0, 1, 1)], 0)
         self.same(run_count(race), 10000)
+        self.same(len(list(runs(race))), 10000)
         race = Race([Way(0, 1, 50), Way(0, 1, 2), Way(0, 1, 1)], 1)
         self.same(run_count(race), 10000 + 4 + 2500 + 10000)
         self.first_raises(TooMany(20000), runs(race))

@@ -5,6 +5,7 @@ from math import comb
 from tests.help import NO_INTEGERS, NO_LISTS, Case, Prickly, dice
 from tests.plainturns import fates_of, plain_borders, plain_play, random_course, whole_courses
 from wholeline.errors import BadCourse, BadPart, TooMany
+from wholeline.plays import Played
 from wholeline.turns import Load, Turn, is_right, play
 
 CALM = Turn(1, 2, 4, 2)
@@ -122,6 +123,8 @@ class PlayTest(Case):
         told = self.shows(CALM, Load([1], 1), course)
         self.same((told.sent, told.lost, told.short, told.idle, told.fault), (((0, 0),), 0, False, 2, False))
         self.assertIs(is_right(Load([1], 1), told), False)
+        self.assertIs(is_right(Load([1], 1), play(CALM, Load([1], 1), course[:2])), False)
+        self.assertIs(is_right(Load([1], 1), play(CALM, Load([1], 1), course[:1])), True)
 
     def test_answer_and_turn_at_one_moment(self):
         # The answer comes just when the turn is over: nothing is sent again.
@@ -267,6 +270,11 @@ class PlayTest(Case):
         self.equal_ones(one, other)
         self.unlike_ones(one, play(CALM, Load([1], 1), [("answered", 1, 2)]))
         self.unlike_others(one)
+        parts = ["sent", "taken", "closed", "lost", "short", "idle", "fault"]
+        for name in parts:
+            unlike = Played(**{part: (9,) if part == name else getattr(one, part) for part in parts[:3]},
+                            **{part: 9 if part == name else getattr(one, part) for part in parts[3:]})
+            self.unlike_ones(one, unlike)
         course.clear()
         self.same(one.sent, ((0, 0),))
         self.not_iterated(one)

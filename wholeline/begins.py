@@ -80,8 +80,9 @@ def bars_ahead(ways, allowed, silent, gap, end, value):
     if not is_tuple_of(value, 2):
         return False
     index, lot = value
-    if not is_between(index, 0, silent) or not is_lot(lot, len(ways)) or len(lot) == 0:
+    if not is_between(index, 0, silent) or not is_lot(lot, len(ways)):
         return False
+    # More ways are allowed than silent, so an empty lot leaves out too many.
     if not all([way in allowed for way in lot]) or len(allowed) - len(lot) > silent - index:
         return False
     return index * gap + 2 * min([int(ways[way].most) for way in lot]) == end

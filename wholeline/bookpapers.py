@@ -6,8 +6,8 @@ from wholeline.kinds import are_rising_indexes, is_told_by
 
 def writing_paper(heads, places):
     """A paper of heads: a writing, and indexes whose bound it reaches."""
-    check_writable(heads, places)
-    return ("best", best_writing(heads, places), least_indexes(heads, places))
+    writing = best_writing(heads, places)
+    return ("best", writing, least_indexes(heads, places))
 
 
 def lets_writing(heads, places, value):

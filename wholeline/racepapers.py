@@ -1,7 +1,7 @@
 """Papers of races."""
 
 from wholeline.kinds import is_index, is_integer, is_lot
-from wholeline.races import check_way, outcome_of, win_run, wrong_of
+from wholeline.races import outcome_of, win_run, wrong_of
 
 
 def in_window(race, way, at):
@@ -12,10 +12,9 @@ def in_window(race, way, at):
 
 def win_paper(race, way, at):
     """A paper that a way can win at a moment, or that it cannot."""
-    check_way(race, way)
     if race.can_win(way, at):
         return ("win", win_run(race, way, at))
-    if not is_integer(at) or not in_window(race, way, at):
+    if not in_window(race, way, at):
         return ("never", ())
     return ("never", race.hurried(way, at)[:race.silent + 1])
 

@@ -45,7 +45,7 @@ def lets_marks(reaches, length, marks):
     if marks[0] < 0 or marks[-1] >= length:
         return False
     for ahead, mark in zip(marks, marks[1:]):
-        if ahead < 0 or mark < top_behind(reaches, ahead):
+        if mark < top_behind(reaches, ahead):
             return False
     return True
 
