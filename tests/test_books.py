@@ -2,7 +2,7 @@
 
 from itertools import product
 
-from tests.help import NO_INTEGERS, NO_LISTS, Case, Prickly, dice
+from tests.help import NO_INTEGERS, NO_LISTS, Case, Prickly, Same, dice
 from wholeline.books import (Book, is_parting, is_word, parting_words, read_words, write_heads)
 from wholeline.errors import BadHead, BadName, BadPart, BadWord, BadWords
 
@@ -98,6 +98,27 @@ class BookTest(Case):
         for name in NO_NAMES:
             self.raises(BadHead(0), Book, 0, [name])
             self.raises(BadHead(2), Book, 1, ["a", "b", name, ""])
+
+    def test_heads_that_are_held(self):
+        names = ["a", "b", "c", "d", "e", "abcdefgh"]
+        others = NO_NAMES + NO_INTEGERS + NO_LISTS + [1, 2, 4, "short", "none", "aa", " a", "a\n", ("long", "a"), Same()]
+        for places in range(5):
+            for uses in product(names, repeat=3):
+                book = Book(places, uses)
+                held = plain_state(places, uses)[0]
+                for name in names:
+                    self.assertIs(name in book, name in held)
+                    self.assertIs(name not in book, name not in held)
+                self.same(book.held(), held)
+        for places in range(5):
+            for value in others:
+                self.assertIs(value in Book(places), False)
+                self.assertIs(value in Book(places, ["a", "b", "c"]), isinstance(value, str) and value == "a" and places >= 3)
+
+    def test_a_book_without_places_holds_nothing(self):
+        for uses in ([], ["a"], ["a", "b", "a"]):
+            for value in ["a", "b", None, 0, True, (), [], "", "A", Prickly()]:
+                self.assertIs(value in Book(0, uses), False)
 
     def test_blank_place_is_filled_first(self):
         book = Book(3, ["a", "b"])

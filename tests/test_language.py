@@ -74,6 +74,32 @@ def is_plain(node):
     return is_call_of(node, {"len", "int", "ord", "str", "repr", "range", "set"})
 
 
+def called_name(node):
+    """The name by which something is called, None if it has none."""
+    if isinstance(node.func, ast.Attribute):
+        return node.func.attr
+    return node.func.id if isinstance(node.func, ast.Name) else None
+
+
+def run_by_operators():
+    """The pairs (file, function) of all that operators, __eq__ and __len__ run, told apart by names alone."""
+    by_name = {}
+    for name, node in nodes(ast.FunctionDef):
+        by_name.setdefault(node.name, []).append((name, node))
+    for name, node in nodes(ast.ClassDef):
+        by_name.setdefault(node.name, []).extend(
+            (name, row) for row in node.body if isinstance(row, ast.FunctionDef) and row.name == "__init__")
+    waiting = [kind for kind in OWN_DUNDERS if kind not in ("__init__", "__call__", "__iter__", "__enter__", "__exit__")]
+    reached = set()
+    while waiting:
+        called = waiting.pop()
+        if called not in reached:
+            reached.add(called)
+            for _, function in by_name.get(called, []):
+                waiting += [called_name(node) for node in ast.walk(function) if isinstance(node, ast.Call)]
+    return [pair for called in sorted(reached - {None}) for pair in by_name.get(called, [])]
+
+
 class FilesTest(Case):
     def test_the_folder(self):
         for path in PACKAGE.iterdir():
@@ -262,3 +288,23 @@ class TreesTest(Case):
             if node.name == "__len__":
                 self.assertEqual(len(node.body), 1, name)
                 self.assertTrue(is_call_of(node.body[0].value, {"len"}), name)
+
+    def test_what_operators_call(self):
+        """L5 Operators: what an operator, __eq__ or __len__ runs calls no name that a class stores."""
+        stored = {node.attr for _, node in nodes(ast.Attribute) if isinstance(node.ctx, ast.Store)}
+        for name, function in run_by_operators():
+            for node in ast.walk(function):
+                if isinstance(node, ast.Call):
+                    self.assertNotIn(called_name(node), stored, (name, node.lineno))
+                    # Nothing is called but what has a name: no items, no results of other calls.
+                    self.assertIsNotNone(called_name(node), (name, node.lineno))
+
+    def test_operators_change_nothing(self):
+        """L5 Operators, L28: on the way of an operator nothing is stored, and no list is changed."""
+        changing = {"append", "clear", "extend", "insert", "pop", "remove", "reverse", "setdefault", "update", "add"}
+        for name, function in run_by_operators():
+            for node in ast.walk(function):
+                if isinstance(node, (ast.Attribute, ast.Subscript)) and function.name != "__init__":
+                    self.assertIsInstance(node.ctx, ast.Load, (name, node.lineno))
+                if isinstance(node, ast.Call) and isinstance(node.func, ast.Attribute):
+                    self.assertNotIn(node.func.attr, changing, (name, node.lineno))

@@ -60,9 +60,7 @@ class Book:
 
     def place_of(self, head):
         """The place of any value that the book holds, or None."""
-        if isinstance(head, str) and head in self.slots:
-            return self.slots.index(head)
-        return None
+        return self.slots.index(head) if head in self else None
 
     def next_place(self):
         """Where the next long head is written, None with 0 places."""
@@ -92,7 +90,7 @@ class Book:
         return head
 
     def __contains__(self, head):
-        return self.place_of(head) is not None
+        return isinstance(head, str) and head in self.slots
 
     def __len__(self):
         return len(self.order)
