@@ -53,6 +53,23 @@ FUNCTIONS = {
         "shows_begins(ways, allowed, silent, gap, end, begins, paper)",
     ],
     "turns": ["play(turn, load, course)", "is_right(load, played)"],
+    "numbers": [
+        "first_fault(turn, load)", "holds(turn, load)", "least_numbers(turn, load)", "safe_turn(turn, load)",
+    ],
+    "faultruns": ["fault_course(turn, load)"],
+    "waytimes": [
+        "taken_latest(turn, load, losses, parcel)", "taken_earliest(turn, load, parcel)",
+        "most_sendings(turn, load, losses)", "latest_course(turn, load, losses)", "earliest_course(turn, load)",
+    ],
+    "wayruns": ["all_courses(turn, load, losses)", "count_courses(turn, load, losses)"],
+    "seen": ["waits_of(played)", "fewest_losses(turn, load, waits)"],
+    "turnpapers": ["shows_fault(turn, load, losses, paper)", "shows_time(turn, load, losses, parcel, paper)"],
+    "boxes": ["spread_of(box)", "slack_of(box)", "lull_of(road)"],
+    "gaps": [
+        "stops(lull, signs)", "quiet_gap(lull, signs)", "period_signs(lull, period)", "race_gap(road)",
+        "row_gap(road)", "rest_gap(road)", "greatest_gap(road)", "gap_kind(road)", "is_kept(road)",
+    ],
+    "signs": ["good_periods(lull, limit)", "fewest_signs(lull, limit)", "best_signs(lull, limit)"],
 }
 
 CLASSES = {
@@ -83,9 +100,13 @@ CLASSES = {
     "races.Outcome": ["__init__(self, winner, moment, sent)"],
     "turns.Turn": ["__init__(self, least, most, turn, numbers)", "__eq__(self, other)"],
     "turns.Load": ["__init__(self, rows, quiet)", "__len__(self)", "__eq__(self, other)"],
+    "boxes.Road": [
+        "__init__(self, way, last, turn, losses, rows, quiet, period)", "__eq__(self, other)",
+    ],
+    "boxes.Lull": ["__init__(self, delay, turn, losses, quiet)", "__eq__(self, other)"],
 }
 
-GENERATORS = ["cutting.cuts", "cutting.filled", "races.outcomes", "races.runs"]
+GENERATORS = ["cutting.cuts", "cutting.filled", "races.outcomes", "races.runs", "wayruns.all_courses"]
 
 
 def tree_of(file):

@@ -1,8 +1,4 @@
-"""How a course of a turn is played, moment by moment."""
-
-from wholeline.errors import TooMany
-
-MOST_SENDINGS = 5000
+"""How a course of a turn is played, moment by moment, however long it is."""
 
 
 class Played:
@@ -28,10 +24,12 @@ class Played:
 class Player:
     """The sender, the reader and what is on its way between them."""
 
-    def __init__(self, turn, load, course):
+    def __init__(self, turn, load, course, spare=None):
         self.turn = turn
         self.load = load
-        self.course = course
+        self.course = list(course)
+        # The fate of each sending for which the course has none, if there is one.
+        self.spare = spare
         self.sent = []
         self.taken = []
         self.closed = []
@@ -88,10 +86,10 @@ class Player:
         """The sender sends a parcel, new or again, unless no fate is left for it."""
         sending = len(self.sent)
         if sending == len(self.course):
-            self.is_short = True
-            return
-        if sending == MOST_SENDINGS:
-            raise TooMany(MOST_SENDINGS)
+            if self.spare is None:
+                self.is_short = True
+                return
+            self.course.append(self.spare)
         self.sent.append((moment, self.parcel))
         self.is_waited_for = True
         self.sends_at = moment + self.turn.turn
@@ -123,7 +121,26 @@ class Player:
 
     def played(self):
         """What the course shows."""
-        losses = [fate for fate in self.course[:len(self.sent)] if fate[0] != "answered"]
+        lost = losses_of(self.course[:len(self.sent)])
         idle = len(self.course) - len(self.sent)
         fault = idle == 0 and (self.takes_wrong() or self.closes_untaken())
-        return Played(self.sent, self.taken, self.closed, len(losses), self.is_short, idle, fault)
+        return Played(self.sent, self.taken, self.closed, lost, self.is_short, idle, fault)
+
+
+def losses_of(fates):
+    """How many of some fates are losses."""
+    return len([fate for fate in fates if fate[0] != "answered"])
+
+
+def shown_by(turn, load, course):
+    """What a course shows that is known to be one."""
+    player = Player(turn, load, course)
+    player.run()
+    return player.played()
+
+
+def finished(turn, load, begun):
+    """The list of the fates of the first whole course that begins like this."""
+    player = Player(turn, load, begun, ("answered", turn.least, turn.least))
+    player.run()
+    return player.course

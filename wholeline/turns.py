@@ -1,8 +1,8 @@
 """Turns, loads, and the courses by which parcels go."""
 
-from wholeline.errors import BadCourse, BadPart
+from wholeline.errors import BadCourse, BadPart, TooMany
 from wholeline.kinds import is_between, is_list, is_list_of, is_told_by
-from wholeline.plays import Player
+from wholeline.plays import shown_by
 from wholeline.ways import MOST_DELAY
 
 MOST_TURN = 200
@@ -10,6 +10,8 @@ MOST_NUMBERS = 8
 MOST_ROWS = 3
 MOST_PARCELS = 600
 MOST_QUIET = 500
+MOST_LOSSES = 3
+MOST_SENDINGS = 5000
 
 
 class Turn:
@@ -35,13 +37,16 @@ class Turn:
         return self.turn == other.turn and self.numbers == other.numbers
 
 
+def are_rows(value):
+    """Whether any value is a list of the numbers of parcels of one to three rows."""
+    return is_list_of(value, 1, MOST_ROWS) and all([is_between(row, 1, MOST_PARCELS) for row in value])
+
+
 class Load:
     """The numbers of parcels of the rows, and the quiet between these."""
 
     def __init__(self, rows, quiet):
-        if not is_list_of(rows, 1, MOST_ROWS):
-            raise BadPart("rows")
-        if not all([is_between(row, 1, MOST_PARCELS) for row in rows]):
+        if not are_rows(rows):
             raise BadPart("rows")
         if not is_between(quiet, 1, MOST_QUIET):
             raise BadPart("quiet")
@@ -69,6 +74,17 @@ def is_fate(turn, value):
     return False
 
 
+def is_course(turn, value):
+    """Whether any value is a course."""
+    return isinstance(value, tuple) and all([is_fate(turn, fate) for fate in value])
+
+
+def check_losses(losses):
+    """Raise BadPart if any value is no number of losses."""
+    if not is_between(losses, 0, MOST_LOSSES):
+        raise BadPart("losses")
+
+
 def play(turn, load, course):
     """What a course shows."""
     if not is_list(course):
@@ -76,9 +92,10 @@ def play(turn, load, course):
     for index, fate in enumerate(course):
         if not is_fate(turn, fate):
             raise BadCourse(index)
-    player = Player(turn, load, course)
-    player.run()
-    return player.played()
+    shown = shown_by(turn, load, course)
+    if len(shown.sent) > MOST_SENDINGS:
+        raise TooMany(MOST_SENDINGS)
+    return shown
 
 
 def is_right(load, played):

@@ -1,0 +1,72 @@
+"""Courses that show why a load does not hold."""
+
+from wholeline.kinds import greater, lesser
+from wholeline.numbers import first_fault, last_resend, least_rest
+
+
+def slow_wait(turn):
+    """How long the parcel waits whose last sending comes, or is answered, too late."""
+    return last_resend(turn) * turn.turn + least_rest(turn)
+
+
+def opened_at(turn, load, slow, parcel):
+    """When a parcel is opened, if one parcel waits longer and all other ones as short as can be."""
+    opened = 2 * turn.least * parcel + load.quiet * load.borders(0, parcel)
+    return opened if parcel <= slow else opened + slow_wait(turn) - 2 * turn.least
+
+
+def answered_behind(turn, time):
+    """The fate of a sending whose answer comes so much later, as near to it as delays let."""
+    both = greater(2 * turn.least, lesser(time, 2 * turn.most))
+    there = greater(turn.least, both - turn.most)
+    return ("answered", there, both - there)
+
+
+def fates_ahead(turn, many, end):
+    """The fates of a parcel's sendings, sent so often, ahead of an end, all answered at once."""
+    sent = [sending for sending in range(many) if sending * turn.turn < end]
+    return [("answered", turn.least, turn.least)] * len(sent)
+
+
+def slow_fates(turn, last):
+    """The fates of the parcel that waits longer, the last one being given."""
+    # All answers but the last one come when it is closed, or shortly behind that: too soon to be taken again.
+    wait = slow_wait(turn)
+    return [answered_behind(turn, wait - sending * turn.turn) for sending in range(last_resend(turn))] + [last]
+
+
+def fates_until(turn, load, slow, last, end):
+    """The fates of all sendings ahead of a moment, if one parcel waits longer."""
+    often = (2 * turn.least - 1) // turn.turn + 1
+    fates = []
+    for parcel in range(len(load)):
+        opened = opened_at(turn, load, slow, parcel)
+        if opened >= end:
+            return fates
+        fates.extend(slow_fates(turn, last) if parcel == slow else fates_ahead(turn, often, end - opened))
+    return fates
+
+
+def copy_course(turn, load, parcel):
+    """A course in which a copy of a parcel comes just when its number is waited for again."""
+    sent = opened_at(turn, load, parcel, parcel) + last_resend(turn) * turn.turn
+    comes = opened_at(turn, load, parcel, parcel + turn.numbers - 1) + turn.least + 1
+    last = ("answered", comes - sent, turn.most)
+    return tuple(fates_until(turn, load, parcel, last, comes))
+
+
+def answer_course(turn, load, parcel):
+    """A course in which an answer to a parcel comes just when its number is opened again, and that is lost."""
+    sent = opened_at(turn, load, parcel, parcel) + last_resend(turn) * turn.turn
+    opened = opened_at(turn, load, parcel, parcel + turn.numbers)
+    last = answered_behind(turn, opened + 1 - sent)
+    return (*fates_until(turn, load, parcel, last, opened), ("lost",))
+
+
+def fault_course(turn, load):
+    """A course that shows the first fault of a load, None if it holds."""
+    fault = first_fault(turn, load)
+    if fault is None:
+        return None
+    kind, parcel = fault
+    return copy_course(turn, load, parcel) if kind == "copy" else answer_course(turn, load, parcel)
