@@ -11,8 +11,7 @@ MOST_PERIOD = 200
 
 def spread_of(box):
     """How much later than another thing one can come to a box, sent at the same moment."""
-    near, far, _, _ = box
-    return far - near
+    return box[1] - box[0]
 
 
 def slack_of(box):

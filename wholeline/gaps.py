@@ -99,7 +99,8 @@ def greatest_gap(road):
 def gap_kind(road):
     """The word of the first gap that is as great as any."""
     greatest = greatest_gap(road)
-    return [word for word, gap in gaps_told(road) if gap == greatest][0]
+    words = [word for word, gap in gaps_told(road) if gap == greatest]
+    return words[0]
 
 
 def is_kept(road):

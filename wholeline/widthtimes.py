@@ -1,0 +1,60 @@
+"""The times of a plan for each true width."""
+
+from wholeline.plans import is_go, met_choices, met_followers_first
+from wholeline.states import behind_probe, check_state, fitting
+from wholeline.widths import greatest_going
+
+
+def longer(times, wait):
+    """Times that each take so much longer."""
+    return tuple([None if time is None else time + wait for time in times])
+
+
+def going_slow(game, state):
+    """The greatest times of going for each true width."""
+    count = game.counts[fitting(state)[0]]
+    return tuple([None if need is None else greatest_going(game, count, game.losses - need) for need in state])
+
+
+def going_quick(game, state):
+    """The least times of going for each true width."""
+    quick = (2 * game.counts[fitting(state)[0]] - 1) * game.least
+    return tuple([None if need is None else quick for need in state])
+
+
+def greatest_times(game, state, plan):
+    """The greatest time of a plan for each true width."""
+    check_state(game, state)
+    times = {}
+    for told, choice in met_followers_first(game, met_choices(game, state, plan)):
+        if is_go(choice):
+            times[told] = going_slow(game, told)
+        else:
+            heard, unheard = [longer(times[behind], 2 * game.most) for behind in behind_probe(game, told, choice)]
+            times[told] = tuple([last_of(pair) for pair in zip(heard, unheard)])
+    return times[state]
+
+
+def least_times(game, state, plan):
+    """The least time of a plan for each true width."""
+    check_state(game, state)
+    times = {}
+    for told, choice in met_followers_first(game, met_choices(game, state, plan)):
+        if is_go(choice):
+            times[told] = going_quick(game, told)
+        else:
+            heard, unheard = [times[behind] for behind in behind_probe(game, told, choice)]
+            # A silence takes the same time, however soon an answer could have come.
+            pairs = list(zip(longer(heard, 2 * game.least), longer(unheard, 2 * game.most)))
+            times[told] = tuple([first_of(pair) for pair in pairs])
+    return times[state]
+
+
+def last_of(times):
+    """The greatest one of some times, None if there are none."""
+    return max([int(time) for time in times if time is not None], default=None)
+
+
+def first_of(times):
+    """The least one of some times, None if there are none."""
+    return min([int(time) for time in times if time is not None], default=None)
