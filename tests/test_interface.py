@@ -70,6 +70,25 @@ FUNCTIONS = {
         "row_gap(road)", "rest_gap(road)", "greatest_gap(road)", "gap_kind(road)", "is_kept(road)",
     ],
     "signs": ["good_periods(lull, limit)", "fewest_signs(lull, limit)", "best_signs(lull, limit)"],
+    "signpapers": [
+        "bars_signs(lull, limit, count, chain)", "barring_chain(lull, limit, count)",
+        "shows_best(lull, limit, signs, chain)",
+    ],
+    "boxpapers": ["forgetting_paper(road)", "shows_forgetting(road, value)"],
+    "widths": ["bases(game)"],
+    "states": [
+        "start(game)", "is_state(game, value)", "useful(game, state)", "answered(game, state, place)",
+        "silent(game, state, place)", "state_of(game, log)", "reached(game, state)",
+    ],
+    "regret": [
+        "go_late(game, state, dues)", "late(game, state, dues)", "best(game, state, dues)", "regret(game, state)",
+    ],
+    "plans": [
+        "check_plan(game, state, dues, plan)", "told_plan(game, state, dues)", "courses(game, state, plan)",
+        "most_probes(game, state, plan)",
+    ],
+    "tables": ["check_table(game, state, dues, table)", "told_table(game, state, dues)"],
+    "widthtimes": ["greatest_times(game, state, plan)", "least_times(game, state, plan)"],
 }
 
 CLASSES = {
@@ -104,9 +123,12 @@ CLASSES = {
         "__init__(self, way, last, turn, losses, rows, quiet, period)", "__eq__(self, other)",
     ],
     "boxes.Lull": ["__init__(self, delay, turn, losses, quiet)", "__eq__(self, other)"],
+    "widths.Game": [
+        "__init__(self, widths, counts, *, least, most, turn, losses)", "__len__(self)", "__eq__(self, other)",
+    ],
 }
 
-GENERATORS = ["cutting.cuts", "cutting.filled", "races.outcomes", "races.runs", "wayruns.all_courses"]
+GENERATORS = ["cutting.cuts", "cutting.filled", "races.outcomes", "races.runs", "wayruns.all_courses", "plans.courses"]
 
 
 def tree_of(file):
@@ -139,3 +161,8 @@ class InterfaceTest(Case):
             file, _, name = place.partition(".")
             function = getattr(importlib.import_module(f"wholeline.{file}"), name)
             self.assertTrue(inspect.isgeneratorfunction(function), place)
+
+    def test_all_modules_are_looked_at(self):
+        helpers = {"__init__", "errors", "kinds", "plays"}
+        told = set(FUNCTIONS) | {place.partition(".")[0] for place in CLASSES} | helpers
+        self.assertEqual({path.stem for path in PACKAGE.glob("*.py")}, told)
