@@ -59,16 +59,16 @@ class Case(unittest.TestCase):
             list(value)
 
     def equal_ones(self, one, other):
-        self.assertTrue(one == other)
-        self.assertFalse(one != other)
+        self.assertIs(one == other, True)
+        self.assertIs(one != other, False)
 
     def unlike_ones(self, one, other):
-        self.assertFalse(one == other)
-        self.assertTrue(one != other)
+        self.assertIs(one == other, False)
+        self.assertIs(one != other, True)
 
     def unlike_others(self, value):
         for other in [None, 0, 1, True, "a", (), [], {}, object(), Same()]:
-            self.assertFalse(value == other)
+            self.assertIs(value == other, False)
 
 
 def dice(seed):

@@ -148,6 +148,12 @@ class LogTest(Case):
         for back, fits in ((2, False), (3, False), (4, True), (6, True), (7, False)):
             log = (("begin", 0, 0, 3), ("parcel", 3, 6, 3 + back))
             self.assertIs(lets(log, 0, road), fits)
+        # What is seen at once has a back from twice the least delay on.
+        for least in (1, 2):
+            road = Road(Way(0, least, 3, [(0, 3, 1, 1)]), 6, 6, 1, [2], 1, 1)
+            for back in range(8):
+                log = (("begin", 0, 0, 4), ("parcel", 4, 4, 4 + back), ("parcel", 4 + back, 7 + back, 10 + back))
+                self.assertIs(lets(log, 1, road), 2 * least <= back <= 6)
         for back in (True, "6", 10.0, Prickly(), Same()):
             self.assertIs(lets((LOG[0], ("parcel", 8, 10, back)), 0), False)
 

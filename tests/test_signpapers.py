@@ -97,6 +97,19 @@ class BarsTest(Case):
         self.assertIs(bars_signs(LULL, 1, 0, (1,)), False)
         self.assertIs(bars_signs(LULL, 1, 0, (2,)), False)
 
+    def test_chains_that_would_bar_but_for_their_first_place(self):
+        lull = Lull(1, 2, 3, 20)
+        self.assertIs(bars_signs(lull, 1, 6, (1, 2, 3, 4, 0)), True)
+        self.assertIs(bars_signs(lull, 1, 6, (2, 3, 4, 0)), False)
+        round_and_on = (7, 3, 4, 5, 6, 7, 3, 4, 0)
+        self.assertIs(bars_signs(lull, 1, 6, round_and_on), True)
+        self.assertIs(bars_signs(lull, 1, 6, (6,) + round_and_on), False)
+        self.assertIs(bars_signs(lull, 1, 6, round_and_on[1:]), False)
+        # And for their last one.
+        self.assertIs(bars_signs(lull, 1, 6, (8, 4)), False)
+        self.assertIs(bars_signs(lull, 1, 6, (8, 4, 5, 6)), False)
+        self.assertIs(bars_signs(lull, 1, 6, (8, 4, 5, 6, 7)), True)
+
     def test_just_as_great_and_one_more(self):
         # The first stop is 22; the last one allows 20 - 1 + limit.
         chain = (4, 2, 3)

@@ -126,10 +126,13 @@ class TimeTest(Case):
                 told = plain_play(turn, load, course)
                 for parcel in range(len(load)):
                     moment = told["taken"][parcel][0]
-                    self.assertIs(shows_time(turn, load, losses, parcel, ("latest", moment, course)),
-                                  moment == taken_latest(turn, load, losses, parcel))
-                    self.assertIs(shows_time(turn, load, losses, parcel, ("earliest", moment, course)),
-                                  moment == taken_earliest(turn, load, parcel))
+                    late = taken_latest(turn, load, losses, parcel)
+                    early = taken_earliest(turn, load, parcel)
+                    for paper, shows in (
+                        (("latest", moment, course), moment == late), (("latest", late, course), moment == late),
+                        (("earliest", moment, course), moment == early), (("earliest", early, course), moment == early),
+                    ):
+                        self.assertIs(shows_time(turn, load, losses, parcel, paper), shows)
 
     def test_too_many_losses(self):
         # The last parcel is taken at the earliest; then its answer is lost.

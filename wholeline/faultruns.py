@@ -1,6 +1,6 @@
 """Courses that show why a load does not hold."""
 
-from wholeline.kinds import greater, lesser
+from wholeline.kinds import greater
 from wholeline.numbers import first_fault, last_resend, least_rest
 
 
@@ -15,9 +15,8 @@ def opened_at(turn, load, slow, parcel):
     return opened if parcel <= slow else opened + slow_wait(turn) - 2 * turn.least
 
 
-def answered_behind(turn, time):
-    """The fate of a sending whose answer comes so much later, as near to it as delays let."""
-    both = greater(2 * turn.least, lesser(time, 2 * turn.most))
+def answered_behind(turn, both):
+    """The fate of a sending whose answer comes so much later."""
     there = greater(turn.least, both - turn.most)
     return ("answered", there, both - there)
 
@@ -30,9 +29,10 @@ def fates_ahead(turn, many, end):
 
 def slow_fates(turn, last):
     """The fates of the parcel that waits longer, the last one being given."""
-    # All answers but the last one come when it is closed, or shortly behind that: too soon to be taken again.
-    wait = slow_wait(turn)
-    return [answered_behind(turn, wait - sending * turn.turn) for sending in range(last_resend(turn))] + [last]
+    # The answer to the first sending closes the parcel; those to the ones between come behind that, and to no
+    # parcel of this number that is open, as long as the last one is on its way.
+    between = [("answered", turn.most, turn.most)] * (last_resend(turn) - 1)
+    return [answered_behind(turn, slow_wait(turn)), *between, last]
 
 
 def fates_until(turn, load, slow, last, end):

@@ -48,7 +48,7 @@ def latest_signs(lull, limit, many):
     for place in range(1, many + 1):
         # Each sign behind this one takes a moment of the quiet.
         latest = lull.quiet - 1 - (many - place)
-        if place > between or many >= between:
+        if many >= between:
             # Of the stops at the places 0, between, 2 * between and so on each one is at most the limit
             # behind the one ahead, and the signs ahead of such a stop take a moment each.
             lots = (place + lull.losses) // between
