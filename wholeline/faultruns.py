@@ -21,12 +21,6 @@ def answered_behind(turn, both):
     return ("answered", there, both - there)
 
 
-def fates_ahead(turn, many, end):
-    """The fates of a parcel's sendings, sent so often, ahead of an end, all answered at once."""
-    sent = [sending for sending in range(many) if sending * turn.turn < end]
-    return [("answered", turn.least, turn.least)] * len(sent)
-
-
 def slow_fates(turn, last):
     """The fates of the parcel that waits longer, the last one being given."""
     # The answer to the first sending closes the parcel; those to the ones between come behind that, and to no
@@ -36,14 +30,14 @@ def slow_fates(turn, last):
 
 
 def fates_until(turn, load, slow, last, end):
-    """The fates of all sendings ahead of a moment, if one parcel waits longer."""
+    """The fates of all sendings of the parcels that are opened ahead of a moment, if one parcel waits longer."""
     often = (2 * turn.least - 1) // turn.turn + 1
+    quick_fates = [("answered", turn.least, turn.least)] * often
     fates = []
     for parcel in range(len(load)):
-        opened = opened_at(turn, load, slow, parcel)
-        if opened >= end:
+        if opened_at(turn, load, slow, parcel) >= end:
             return fates
-        fates.extend(slow_fates(turn, last) if parcel == slow else fates_ahead(turn, often, end - opened))
+        fates.extend(slow_fates(turn, last) if parcel == slow else quick_fates)
     return fates
 
 

@@ -38,7 +38,8 @@ def first_fault(turn, load):
     """The first fault of a load, None if it holds."""
     copy = copy_excess(turn)
     answer = answer_excess(turn)
-    if is_calm(turn) or (copy <= 0 and answer <= 0):
+    # An answer is never less late than a copy.
+    if is_calm(turn) or answer <= 0:
         return None
     for parcel in range(len(load)):
         if fails(load, parcel, parcel + turn.numbers - 1, copy):
