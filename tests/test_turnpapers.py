@@ -37,7 +37,9 @@ class FaultTest(Case):
                 seen.add(kind)
                 for losses in range(4):
                     self.assertIs(shows_fault(turn, load, losses, ("fault", course)), kind == "copy" or losses > 0)
-                self.assertIs(shows_fault(turn, load, 3, ("fault", course[:-1])), False)
+                for many in (len(course) // 2, len(course) - 1):
+                    shows = plain_play(turn, load, course[:many])["fault"]
+                    self.assertIs(shows_fault(turn, load, 3, ("fault", course[:many])), shows)
                 self.assertIs(shows_fault(turn, load, 3, ["fault", course]), False)
                 self.assertIs(shows_fault(turn, load, 3, ("fault", list(course))), False)
                 self.assertIs(shows_fault(turn, load, 3, ("latest", course)), False)
