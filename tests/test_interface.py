@@ -89,6 +89,30 @@ FUNCTIONS = {
     ],
     "tables": ["check_table(game, state, dues, table)", "told_table(game, state, dues)"],
     "widthtimes": ["greatest_times(game, state, plan)", "least_times(game, state, plan)"],
+    "fronts": ["front(game, state)"],
+    "widthpapers": [
+        "run_times(game, state, plan, place, run)", "greatest_run(game, state, plan, place)",
+        "least_run(game, state, plan, place)",
+    ],
+    "lines": ["load_of(line, width)", "race_of(line)", "turn_on(line, way)", "road_on(line, way)"],
+    "bars": ["first_bar(line)", "bars(line)"],
+    "barpapers": ["bar_paper(line)", "shown_bar(line, value)"],
+    "linetimes": [
+        "way_times(line)", "least_time(line)", "greatest_time(line)", "game_on(line, way)", "regrets(line)",
+    ],
+    "timepapers": ["line_time_paper(line, word)", "shown_time(line, value)"],
+    "heals": ["heals(line, menu)", "least_setting(line, word)"],
+    "beside": ["is_milder(line, other)"],
+    "forms": [
+        "is_message(value)", "write_form(message)", "read_form(data)", "message_width(message, head)",
+        "written(letter, book, long_cost)", "read_letter(units, book)", "bent(data, changes)",
+    ],
+    "nets": ["run_line(line, fate, *, going=None)"],
+    "monitors": [
+        "is_clean(run)", "flaw(run)", "takings(run)", "told_times(run)", "most_held(run)", "seen_by(run, box)",
+        "widest_gap(run, box)", "course_of(run)", "is_run(line, fate, going, events)",
+    ],
+    "texts": ["write_line(line)", "read_line(text)", "read_deeds(text)"],
 }
 
 CLASSES = {
@@ -126,6 +150,28 @@ CLASSES = {
     "widths.Game": [
         "__init__(self, widths, counts, *, least, most, turn, losses)", "__len__(self)", "__eq__(self, other)",
     ],
+    "lines.Line": [
+        "__init__(self, mail, ways, widths, *, turn, numbers, room, head, places, cost, period, quiet, silent, losses)",
+        "changed(self, change)", "with_setting(self, word, value)", "__eq__(self, other)",
+    ],
+    "senders.Sender": [
+        "__init__(self, line, way, width, start)", "wake(self)", "due(self, moment)", "come(self, moment, message)",
+        "open_parcel(self)", "book_now(self)", "answered(self)",
+    ],
+    "readers.Reader": [
+        "__init__(self, line)", "come(self, moment, data)", "waits(self)", "held_units(self)", "free_room(self)",
+        "told_letters(self)", "book_now(self)", "thrown(self)",
+    ],
+    "nets.Fate": [
+        "__init__(self, width, race, *, delays=(), lost=(), bends=(), offsets=(), keeps=())", "__eq__(self, other)",
+    ],
+    "nets.Run": ["__eq__(self, other)"],
+    "sessions.Session": [
+        "__init__(self, line)", "__len__(self)", "do(self, deed)", "undo(self)", "steps_done(self)", "line_now(self)",
+        "is_running(self)", "clock(self)", "in_air(self)", "may_come(self)", "letters_read(self)",
+    ],
+    "sessions.Trial": ["__init__(self, session)", "__enter__(self)", "__exit__(self, kind, value, trace)"],
+    "console.Console": ["__init__(self, line)", "enter(self, text)"],
 }
 
 GENERATORS = ["cutting.cuts", "cutting.filled", "races.outcomes", "races.runs", "wayruns.all_courses", "plans.courses"]
@@ -163,6 +209,6 @@ class InterfaceTest(Case):
             self.assertTrue(inspect.isgeneratorfunction(function), place)
 
     def test_all_modules_are_looked_at(self):
-        helpers = {"__init__", "errors", "kinds", "plays"}
+        helpers = {"__init__", "errors", "kinds", "plays", "netplays", "leads"}
         told = set(FUNCTIONS) | {place.partition(".")[0] for place in CLASSES} | helpers
         self.assertEqual({path.stem for path in PACKAGE.glob("*.py")}, told)

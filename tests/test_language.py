@@ -214,6 +214,10 @@ class TreesTest(Case):
         }
         builtin = {word for kind in (str, int, list, dict, set, bytes, tuple) for word in dir(kind)}
         for name, node in nodes(ast.Attribute):
+            if node.attr in ("__class__", "__name__"):
+                # L8 Class names: both stand together, behind a name or an attribute.
+                self.assertIn(ast.unparse(node), ("error.__class__", "error.__class__.__name__"), name)
+                continue
             self.assertTrue(node.attr in assigned | methods | METHODS, (name, node.lineno, node.attr))
             self.assertFalse(node.attr in builtin - METHODS, (name, node.lineno, node.attr))
         for name, node in nodes(ast.ClassDef):
@@ -274,7 +278,45 @@ class TreesTest(Case):
         kinds = {node.name for _, node in nodes(ast.ClassDef)} | {"TypeError"}
         for name, node in nodes(ast.Raise):
             self.assertTrue(is_call_of(node.exc, kinds), (name, node.lineno))
-        self.assertFalse(list(nodes(ast.Try)))
+        own = {node.name for node in TREES["errors"].body if isinstance(node, ast.ClassDef)}
+        for name, node in nodes(ast.ExceptHandler):
+            caught = node.type.elts if isinstance(node.type, ast.Tuple) else [node.type]
+            self.assertTrue({told.id for told in caught} <= own, (name, node.lineno))
+        for name, node in nodes(ast.Try):
+            self.assertFalse(node.finalbody, (name, node.lineno))
+            # Errors with keywords would only let their attributes be read.
+            self.assertTrue(node.handlers, (name, node.lineno))
+
+    def test_tables_are_only_read(self):
+        """L15: a list or a dict at module level is only read where it stands, never passed on."""
+        for name, tree in TREES.items():
+            tables = {
+                node.targets[0].id for node in tree.body
+                if isinstance(node, ast.Assign) and isinstance(node.value, (ast.Dict, ast.List))
+            }
+            parents = parents_of(tree)
+            for node in ast.walk(tree):
+                if isinstance(node, ast.Name) and node.id in tables and isinstance(node.ctx, ast.Load):
+                    parent = parents[node]
+                    read = isinstance(parent, ast.Subscript) and parent.value is node and isinstance(parent.ctx, ast.Load)
+                    tested = isinstance(parent, ast.Compare) and isinstance(parent.ops[0], (ast.In, ast.NotIn))
+                    asked = isinstance(parent, ast.Attribute) and parent.attr == "get"
+                    self.assertTrue(read or tested or asked, (name, node.lineno))
+
+    def test_leaving_a_with(self):
+        """L6 With: what stands in `__exit__` puts attributes back, and nothing else."""
+        for name, node in nodes(ast.FunctionDef):
+            if node.name == "__exit__":
+                for row in node.body:
+                    self.assertIsInstance(row, ast.Assign, name)
+                    for side in (row.targets[0], row.value):
+                        self.assertIsInstance(side, ast.Attribute, name)
+
+    def test_stars(self):
+        """L4: what stands behind a star among parameters is passed by keyword, and no star takes the rest."""
+        for name, node in nodes(ast.FunctionDef):
+            self.assertIsNone(node.args.vararg, (name, node.name))
+            self.assertIsNone(node.args.kwarg, (name, node.name))
 
     def test_remainders_are_of_numbers(self):
         """L7 Bytes: the left side of each remainder is plainly a number."""

@@ -57,6 +57,17 @@ def is_lot(value, many):
     return isinstance(value, tuple) and are_rising_indexes(value, many)
 
 
+def ascending(rows):
+    """The ascending list of some tuples."""
+    told = []
+    for row in rows:
+        place = len(told)
+        while place > 0 and row < told[place - 1]:
+            place -= 1
+        told.insert(place, row)
+    return told
+
+
 # Classes of the package compare, so min and max are shown plain numbers here.
 def lesser(one, other):
     """The lesser one of two integers."""

@@ -22,32 +22,53 @@ def going_quick(game, state):
     return tuple([None if need is None else quick for need in state])
 
 
-def greatest_times(game, state, plan):
-    """The greatest time of a plan for each true width."""
-    check_state(game, state)
+def probing_slow(game, heard, unheard):
+    """The greatest times of a probe, by those behind its answer and its silence."""
+    wait = 2 * game.most
+    return tuple([last_of(pair) for pair in zip(longer(heard, wait), longer(unheard, wait))])
+
+
+def probing_quick(game, heard, unheard):
+    """The least times of a probe, by those behind its answer and its silence."""
+    # A silence takes the same time, however soon an answer could have come.
+    soon, late = longer(heard, 2 * game.least), longer(unheard, 2 * game.most)
+    return tuple([first_of(pair) for pair in zip(soon, late)])
+
+
+def slow_times(game, choices):
+    """A dict with the greatest times from each state on that a plan meets."""
     times = {}
-    for told, choice in met_followers_first(game, met_choices(game, state, plan)):
+    for told, choice in met_followers_first(game, choices):
         if is_go(choice):
             times[told] = going_slow(game, told)
         else:
-            heard, unheard = [longer(times[behind], 2 * game.most) for behind in behind_probe(game, told, choice)]
-            times[told] = tuple([last_of(pair) for pair in zip(heard, unheard)])
-    return times[state]
+            heard, unheard = [times[behind] for behind in behind_probe(game, told, choice)]
+            times[told] = probing_slow(game, heard, unheard)
+    return times
+
+
+def quick_times(game, choices):
+    """A dict with the least times from each state on that a plan meets."""
+    times = {}
+    for told, choice in met_followers_first(game, choices):
+        if is_go(choice):
+            times[told] = going_quick(game, told)
+        else:
+            heard, unheard = [times[behind] for behind in behind_probe(game, told, choice)]
+            times[told] = probing_quick(game, heard, unheard)
+    return times
+
+
+def greatest_times(game, state, plan):
+    """The greatest time of a plan for each true width."""
+    check_state(game, state)
+    return slow_times(game, met_choices(game, state, plan))[state]
 
 
 def least_times(game, state, plan):
     """The least time of a plan for each true width."""
     check_state(game, state)
-    times = {}
-    for told, choice in met_followers_first(game, met_choices(game, state, plan)):
-        if is_go(choice):
-            times[told] = going_quick(game, told)
-        else:
-            heard, unheard = [times[behind] for behind in behind_probe(game, told, choice)]
-            # A silence takes the same time, however soon an answer could have come.
-            pairs = list(zip(longer(heard, 2 * game.least), longer(unheard, 2 * game.most)))
-            times[told] = tuple([first_of(pair) for pair in pairs])
-    return times[state]
+    return quick_times(game, met_choices(game, state, plan))[state]
 
 
 def last_of(times):
