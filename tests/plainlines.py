@@ -107,3 +107,9 @@ def random_line(roll, **settings):
     }
     told.update(settings)
     return Line(**told)
+
+
+def hasty_line(roll):
+    """A small line without boxes whose turn is short."""
+    ways = [random_way(roll, boxes=0) for _ in range(roll.randrange(1, 3))]
+    return random_line(roll, ways=ways, turn=roll.randrange(1, 5), numbers=2, head=1, silent=0)
