@@ -254,10 +254,9 @@ class TreesTest(Case):
                     parent = parents[node]
                     looped = isinstance(parent, (ast.For, ast.comprehension)) and parent.iter is node
                     self.assertTrue(looped or is_call_of(parent, takers), (name, node.lineno))
-            for node in functions_of(tree):
-                self.assertTrue(
-                    sum(other.name == node.name for _, other in nodes(ast.FunctionDef)) == 1
-                    or node.name not in generators, (name, node.name))
+        names = [node.name for _, node in nodes(ast.FunctionDef)]
+        for generator in generators:
+            self.assertEqual(names.count(generator), 1, generator)
 
     def test_sets(self):
         for name, tree in TREES.items():
@@ -312,6 +311,15 @@ class TreesTest(Case):
                     for side in (row.targets[0], row.value):
                         self.assertIsInstance(side, ast.Attribute, name)
 
+    def test_calls_with_stars(self):
+        """L7: beside two stars stand only names, and these are the only stars of calls."""
+        for name, node in nodes(ast.Call):
+            self.assertFalse([told for told in node.args if isinstance(told, ast.Starred)], (name, node.lineno))
+            if [told for told in node.keywords if told.arg is None]:
+                self.assertEqual(len(node.keywords), 1, (name, node.lineno))
+                for told in [*node.args, node.keywords[0].value]:
+                    self.assertIsInstance(told, ast.Name, (name, node.lineno))
+
     def test_stars(self):
         """L4: what stands behind a star among parameters is passed by keyword, and no star takes the rest."""
         for name, node in nodes(ast.FunctionDef):
@@ -322,7 +330,7 @@ class TreesTest(Case):
         """L7 Bytes: the left side of each remainder is plainly a number."""
         for name, node in nodes(ast.BinOp):
             if isinstance(node.op, ast.Mod):
-                self.assertTrue(is_call_of(node.left, {"int", "len", "sum", "abs"}), (name, node.lineno))
+                self.assertTrue(is_call_of(node.left, {"int", "len"}), (name, node.lineno))
             self.assertNotIsInstance(node.op, ast.Div, (name, node.lineno))
 
     def test_lengths(self):

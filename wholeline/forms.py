@@ -103,8 +103,9 @@ def pair_of(number):
 def framed(middle):
     """The bytes of a message with this middle: its length, the middle and two sums."""
     told = [*pair_of(len(middle)), *middle]
-    times = sum([place * byte for place, byte in enumerate(told, start=1)])
-    return bytes([*told, *pair_of(sum(told) % MODULUS), *pair_of(int(times) % MODULUS)])
+    first = sum(told)
+    second = sum([place * byte for place, byte in enumerate(told, start=1)])
+    return bytes([*told, *pair_of(int(first) % MODULUS), *pair_of(int(second) % MODULUS)])
 
 
 def form_of(message):

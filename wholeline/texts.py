@@ -118,7 +118,8 @@ def read_line(text):
     settings = {word: numbers[word][0] for word in COUNTED}
     settings["room"] = Room(settings["room"], Steps(numbers["bounds"]))
     mail = Mail(rows_in(told))
-    return Line(mail, ways, numbers["widths"], **settings)
+    widths = numbers["widths"]
+    return Line(mail, ways, widths, **settings)
 
 
 def joined(words):
