@@ -436,22 +436,24 @@ class ManyTest(Case):
 def lead(test, run):
     """A session led to the events of a run in which nothing is forgotten, too wide or bent."""
     session = started(run.line, run.winner, run.going, run.start)
-    things = {}
-    for moment, word, going, message in run.events:
-        if word in ("came", "lost") and moment > session.clock():
-            session.do(("wait", moment))
-        if word == "came":
-            test.assertIn(going, session.may_come())
-            session.do(("come", going))
-        elif word == "lost":
-            # What the sender sends goes out when the clock leaves the moment.
-            if going not in [row[0] for row in session.in_air()]:
+    sent = {
+        event[2]: (event[2], "reader" if event[1] == "sent" else "sender", event[0], event[3])
+        for event in run.events if event[1] in ("sent", "answered")
+    }
+    air = []
+    for moment, word, going, _ in run.events:
+        if word in ("came", "lost"):
+            if moment > session.clock():
+                session.do(("wait", moment))
+            if word == "lost" and going not in [row[0] for row in session.in_air()]:
+                # What the sender sends goes out when the clock leaves the moment.
                 session.do(("wait", moment + 1))
-            session.do(("lose", going))
-        elif word in ("sent", "answered"):
-            things[going] = (going, "reader" if word == "sent" else "sender", moment, message)
-        for row in session.in_air():
-            test.assertEqual(row, things.get(row[0], row))
+            air += [row for row in session.in_air() if row[0] == going]
+            if word == "came":
+                test.assertIn(going, session.may_come())
+            session.do(("come" if word == "came" else "lose", going))
+    # Each going was in the air as it went out in the run.
+    test.assertEqual(sorted(air), [sent[going] for going in sorted(sent)])
     return session
 
 

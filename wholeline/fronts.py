@@ -38,8 +38,8 @@ def front_in(game, state, fronts):
     vectors = [going_slow(game, state)]
     for place in useful_in(state):
         answer, silence = behind_probe(game, state, place)
-        # A state that is met behind both has one choice in a plan. That of the time with more probes ahead of it
-        # makes no vector greater there, so choosing twice leads to no front that one choice does not reach.
+        # A state may be met behind both, and a plan has one choice for it. Of two unlike ones, that of the longer way
+        # there makes no time greater if it is taken on the shorter way, too; so the front is that of plans.
         vectors.extend([
             probing_slow(game, heard, unheard) for heard in fronts[answer] for unheard in fronts[silence]
         ])
