@@ -215,8 +215,8 @@ class TreesTest(Case):
         builtin = {word for kind in (str, int, list, dict, set, bytes, tuple) for word in dir(kind)}
         for name, node in nodes(ast.Attribute):
             if node.attr in ("__class__", "__name__"):
-                # L8 Class names: both stand together, behind a name or an attribute.
-                self.assertIn(ast.unparse(node), ("error.__class__", "error.__class__.__name__"), name)
+                # L8 Class names: both stand together, behind a parameter.
+                self.assertIn(ast.unparse(node), ("self.__class__", "self.__class__.__name__"), name)
                 continue
             self.assertTrue(node.attr in assigned | methods | METHODS, (name, node.lineno, node.attr))
             self.assertFalse(node.attr in builtin - METHODS, (name, node.lineno, node.attr))

@@ -70,4 +70,4 @@ class Console:
         try:
             return answer_to(self.session, text)
         except (WholeError, TooMany, NothingToUndo) as error:
-            return ["error " + error.__class__.__name__]
+            return ["error " + error.class_name()]

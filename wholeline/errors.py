@@ -4,6 +4,10 @@
 class WholeError(ValueError):
     """The base class of the errors that tell what is wrong."""
 
+    def class_name(self):
+        """The name of the error's class."""
+        return self.__class__.__name__
+
 
 class BadPart(WholeError):
     """An argument that does not fit, told by its name."""
@@ -319,9 +323,17 @@ class TooMany(OverflowError):
     def __init__(self, limit):
         self.limit = limit
 
+    def class_name(self):
+        """The name of the error's class."""
+        return self.__class__.__name__
+
 
 class NothingToUndo(RuntimeError):
     """No step that could be taken back."""
 
     def __init__(self, name):
         self.name = name
+
+    def class_name(self):
+        """The name of the error's class."""
+        return self.__class__.__name__

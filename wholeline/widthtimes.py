@@ -35,28 +35,26 @@ def probing_quick(game, heard, unheard):
     return tuple([first_of(pair) for pair in zip(soon, late)])
 
 
-def slow_times(game, choices):
-    """A dict with the greatest times from each state on that a plan meets."""
+def times_by(game, choices, when_going, when_probing):
+    """A dict with the times from each state on that a plan meets, by what tells those of going and of a probe."""
     times = {}
     for told, choice in met_followers_first(game, choices):
         if is_go(choice):
-            times[told] = going_slow(game, told)
+            times[told] = when_going(game, told)
         else:
             heard, unheard = [times[behind] for behind in behind_probe(game, told, choice)]
-            times[told] = probing_slow(game, heard, unheard)
+            times[told] = when_probing(game, heard, unheard)
     return times
+
+
+def slow_times(game, choices):
+    """A dict with the greatest times from each state on that a plan meets."""
+    return times_by(game, choices, going_slow, probing_slow)
 
 
 def quick_times(game, choices):
     """A dict with the least times from each state on that a plan meets."""
-    times = {}
-    for told, choice in met_followers_first(game, choices):
-        if is_go(choice):
-            times[told] = going_quick(game, told)
-        else:
-            heard, unheard = [times[behind] for behind in behind_probe(game, told, choice)]
-            times[told] = probing_quick(game, heard, unheard)
-    return times
+    return times_by(game, choices, going_quick, probing_quick)
 
 
 def greatest_times(game, state, plan):
