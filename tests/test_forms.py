@@ -2,7 +2,7 @@
 
 from itertools import combinations
 
-from tests.help import NO_INTEGERS, Case, Prickly, Same, dice
+from tests.help import NO_INTEGERS, NO_LISTS, Case, Prickly, Same, dice
 from tests.plainlines import random_letter
 from wholeline.books import Book, write_heads
 from wholeline.errors import BadBend, BadBytes, BadLetter, BadMessage, BadPart, BadUnits
@@ -303,3 +303,5 @@ class BentTest(Case):
             self.raises(BadBend(0), bent, b"abc", [value])
             self.raises(BadBend(2), bent, b"abc", ((0, 0), (2, 255), value, None))
         self.raises(BadBend(0), bent, b"", [(0, 0)])
+        for value in NO_LISTS:
+            self.raises(BadBend(None), bent, b"abc", value)

@@ -103,6 +103,9 @@ class ReadTest(Case):
         for many in range(1, 16):
             self.raises(BadText(many), read_line, "\n".join(LINES[:many]))
         self.raises(BadText(0), read_line, "")
+        for value in (None, 0, TEXT.encode(), TEXT.split("\n")):
+            self.raises(BadText(None), read_line, value)
+            self.raises(BadText(None), read_deeds, value)
         # A row without letters is a row.
         self.raises(BadRow(0), read_line, "\n".join(LINES[:16]))
 

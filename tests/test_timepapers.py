@@ -102,6 +102,11 @@ class PaperTest(Case):
         self.raises(TooMany(5000), line_time_paper, line.with_setting("ways", [Way(0, 50, 50), Way(102, 49, 49)]), "greatest")
         turned = line.with_setting("ways", [Way(103, 49, 49), Way(0, 50, 50)])
         self.same(line_time_paper(turned, "greatest")[0], 0)
+        # The delays of the time that is asked for matter alone.
+        slow = line.with_setting("ways", [Way(0, 50, 50), Way(103, 49, 50)])
+        self.same((line_time_paper(slow, "least")[0], len(line_time_paper(slow, "least")[3])), (1, 51 * 98))
+        wide = line.with_setting("ways", [Way(0, 40, 50), Way(103, 41, 49)])
+        self.same((line_time_paper(wide, "greatest")[0], shown_time(wide, line_time_paper(wide, "greatest"))), (1, 5151))
 
 
 class ShownTest(Case):

@@ -105,9 +105,9 @@ def rows_in(told):
 
 
 def numbers_in(told):
-    """A dict with the lists of numbers behind the other words of a text."""
-    others = ("way", "box", "row", "letter")
-    return {words[0]: [int(part) for part in words[1:]] for words in told if words[0] not in others}
+    """A dict with the lists of numbers behind the words for widths, bounds and settings of a text."""
+    wanted = ("widths", "bounds", *COUNTED)
+    return {words[0]: [int(part) for part in words[1:]] for words in told if words[0] in wanted}
 
 
 def read_line(text):

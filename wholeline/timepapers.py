@@ -36,15 +36,9 @@ def way_for(line, word):
         times = [(way, greatest) for way, _, greatest in way_times(line)]
         told = max([int(time) for _, time in times])
     ways = [way for way, time in times if time == told]
-    often = [resends_on(line, way, word) for way in ways]
-    return ways[often.index(min([int(many) for many in often]))]
-
-
-def resends_on(line, way, word):
-    """How often a parcel is sent again on a way with the least or the most delays."""
-    told = line.ways[way]
-    delay = told.least if word == "least" else told.most
-    return (2 * delay - 1) // line.turn
+    # The sooner answers come, the fewer parcels are sent again.
+    delays = [line.ways[way].least if word == "least" else line.ways[way].most for way in ways]
+    return ways[delays.index(min([int(delay) for delay in delays]))]
 
 
 def shown_time(line, value):
