@@ -157,6 +157,13 @@ class BoxTest(Case):
         self.same([len(seen_by(run, 0)), len(seen_by(run, 1))], [5001, 5001])
         self.same(widest_gap(run, 1), 12)
 
+    def test_not_later_than_at_the_reader(self):
+        # The beginning is one moment on its way, its answer two; what the race tells of the answer changes nothing.
+        line = line_with(ways=[Way(0, 1, 2, [(0, 2, 40, 40)])], silent=0)
+        for there, back in ((1, 2), (2, 1), (1, 1), (2, 2)):
+            run = run_line(line, Fate(5, ((there, back),), offsets=((2, 2),), delays=(1,)))
+            self.same(seen_by(run, 0)[:2], (there, there + back + 1))
+
     def test_the_beginning_alone(self):
         # All that goes out is the one parcel, lost, of a cut run; so at least two things come to the box otherwise.
         for run in runs_of(544, 150):
@@ -354,6 +361,22 @@ class IsRunTest(Case):
         for message in (("parcel", False, False, first[3][3]), ("parcel", 0, 0, first[3][3]), ("parcel", 0, False, list(first[3][3])),
                         ("parcel", 0, None, first[3][3]), list(first[3])):
             self.assertIs(is_run(LINE, run.fate, 5, ((*first[:3], message), *run.events[1:])), False)
+
+    def test_other_words_and_parts(self):
+        # Each is of the kind that stands there, but not what the run tells.
+        run = run_line(LINE, Fate(5, RACE))
+        first, told = run.events[0], [event for event in run.events if event[1] == "told"][0]
+        kind, number, last, units = first[3]
+        for message in (("sign", number, last, units), (kind, number + 1, last, units), (kind, number, not last, units),
+                        (kind, number, last, units[:-1]), (kind, number, last, (*units[:-1], ("body",), ("body",)))):
+            self.assertIs(is_run(LINE, run.fate, 5, ((*first[:3], message), *run.events[1:])), False)
+        for event in ((first[0] + 1, *first[1:]), (first[0], "lost", *first[2:]), (*first[:2], 1, first[3])):
+            self.assertIs(is_run(LINE, run.fate, 5, (event, *run.events[1:])), False)
+        at = run.events.index(told)
+        (one, *others), body = told[3]
+        for letter in ((("zoe", *others), body), ((one, *others), body + 1), ((one, None), body), ((one, *others),)):
+            bent = (*run.events[:at], (*told[:3], letter), *run.events[at + 1:])
+            self.assertIs(is_run(LINE, run.fate, 5, bent), False)
 
     def test_any_values(self):
         run = run_line(LINE, Fate(5, RACE))

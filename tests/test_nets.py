@@ -203,6 +203,10 @@ class RunTest(Case):
         for other in (run_line(LINE, fate, going=8), run_line(LINE, Fate(5, RACE, delays=(1,))), run_line(LINE, Fate(8, RACE)),
                       run_line(line_with(losses=2), fate), run_line(LINE, Fate(5, ((2, 1), None)))):
             self.unlike_ones(run, other)
+        # Without an answer only the widths tell such runs apart.
+        line, silence = line_with(silent=2), Fate(5, (None, None))
+        self.equal_ones(run_line(line, silence), run_line(line, silence, going=5))
+        self.unlike_ones(run_line(line, silence), run_line(line, silence, going=8))
         self.assertIsInstance(run, Run)
         self.unlike_others(run)
         self.not_iterated(run)
