@@ -1,6 +1,6 @@
 """[51]: consoles."""
 
-from tests.help import NO_INTEGERS, Case, Same
+from tests.help import NO_INTEGERS, Case, Prickly, Same
 from tests.plainlines import LINE, line_with
 from tests.test_sessions import SMALL
 from tests.test_texts import TEXT
@@ -86,6 +86,13 @@ class ConsoleTest(Case):
                 self.same(console.enter(text), ["error BadCommand"])
                 self.same(console.enter(f"try {text}"), ["error BadCommand"])
                 self.same(console.enter("show"), before)
+
+    def test_what_is_no_text(self):
+        for console in (Console(SMALL), self.running()):
+            before = console.enter("show")
+            for value in (True, False, None, 0, 1, b"row", (), [], ["row"], ("row",), {}, object(), Prickly(), Same()):
+                self.same(console.enter(value), ["error BadCommand"])
+            self.same(console.enter("show"), before)
 
     def running(self):
         console = Console(SMALL)

@@ -409,6 +409,20 @@ class TrialTest(Case):
             session.do(("change", ("turn", 50)))
         self.same([session.steps_done(), session.line_now().turn], [[("row",), ("cut",)], 12])
 
+    def test_one_within_itself(self):
+        session = Session(LINE)
+        trial = Trial(session)
+        before = session.steps_done()
+        with trial:
+            session.do(("row",))
+            with trial:
+                session.do(("cut",))
+                session.do(("start", 0, 5, 2))
+            self.same([session.steps_done(), session.is_running()], [[("row",)], False])
+            session.do(("start", 0, 5, 3))
+        self.same([session.steps_done(), session.is_running()], [before, False])
+        self.equal_ones(session.line_now(), LINE)
+
     def test_steps_behind_a_trial(self):
         session = Session(LINE)
         with Trial(session):

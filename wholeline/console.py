@@ -42,6 +42,8 @@ def tried(session, deed):
 
 def answer_to(session, text):
     """The answer to a command, which is done."""
+    if not isinstance(text, str):
+        raise BadCommand(text)
     if text == "line":
         return write_line(session.line_now()).split("\n")
     if text == "show":

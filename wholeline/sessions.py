@@ -138,19 +138,30 @@ class Session:
         return len(self.done)
 
 
+class Mark:
+    """Where a session was when a Trial was entered."""
+
+    def __init__(self, session, ahead):
+        self.line = session.line
+        self.lead = session.lead
+        self.done = list(session.done)
+        self.ahead = ahead
+
+
 class Trial:
     """A session in a with statement, which is put back behind it."""
 
     def __init__(self, session):
         self.session = session
+        # The last entry that is not left; it knows the one ahead of it, as a Trial may stand within itself.
+        self.mark = None
 
     def __enter__(self):
-        self.line = self.session.line
-        self.lead = self.session.lead
-        self.done = list(self.session.done)
+        self.mark = Mark(self.session, self.mark)
         return self.session
 
     def __exit__(self, kind, value, trace):
-        self.session.line = self.line
-        self.session.lead = self.lead
-        self.session.done = self.done
+        self.session.line = self.mark.line
+        self.session.lead = self.mark.lead
+        self.session.done = self.mark.done
+        self.mark = self.mark.ahead
